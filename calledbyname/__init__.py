@@ -1,0 +1,1 @@
+"""Notes, intervals, keys, chords: what they are called."""
