@@ -1,22 +1,69 @@
-"""Notes, intervals and keys: what each call on them answers."""
+"""Notes, intervals, keys and chords: what each call on them answers."""
 
 REFUSED = -1
 NO_NOTE = -3
+NO_CHORD = -3
 
 # By the step in the octave, from C to B.
 SEMITONES = (0, 2, 4, 5, 7, 9, 11)
 PLACES = (0, 2, 4, -1, 1, 3, 5)
 
-# How many numbers each call has.
-WIDTHS = {1: 2, 2: 4, 3: 4, 4: 2, 5: 4}
+# By the kind: how many semitones above the root its notes are, from the root on.
+CHORDS = (
+    (0, 4, 7),
+    (0, 3, 7),
+    (0, 3, 6),
+    (0, 4, 8),
+    (0, 4, 7, 11),
+    (0, 4, 7, 10),
+    (0, 3, 7, 10),
+    (0, 3, 6, 10),
+    (0, 3, 6, 9),
+)
+
+# By how many notes a chord has, then by the turn.
+FIGURES = {3: ((), (6,), (6, 4)), 4: ((7,), (6, 5), (4, 3), (2,))}
+
+# How many numbers each call may have.
+WIDTHS = {
+    1: (2,),
+    2: (4,),
+    3: (4,),
+    4: (2,),
+    5: (4,),
+    6: (1, 2, 3, 4, 5, 6, 7),
+    7: (2, 4, 6, 8, 10, 12, 14, 16),
+    8: (4,),
+    9: (2, 4, 6, 8, 10, 12, 14, 16, 18),
+}
 
 
 def is_note(d, a):
     return 0 <= d <= 69 and -2 <= a <= 2
 
 
+def are_notes(notes):
+    return all([is_note(note[0], note[1]) for note in notes])
+
+
+def is_fifths(k):
+    return -7 <= k <= 7
+
+
 def is_key(k, mode):
-    return -7 <= k <= 7 and 0 <= mode <= 6
+    return is_fifths(k) and 0 <= mode <= 6
+
+
+def is_distance(s, t):
+    return -70 <= s <= 70 and -200 <= t <= 200
+
+
+def is_sound(sound):
+    return 0 <= sound <= 118
+
+
+def is_turned_kind(kind, turn):
+    return 0 <= kind < len(CHORDS) and 0 <= turn < len(CHORDS[kind])
 
 
 def plain_semitones(steps):
@@ -52,13 +99,24 @@ def consonance_of(s, t):
     return 0
 
 
-def note_above(d, a, s, t):
-    """The note s steps and t semitones above the one told, as a list of two; None if that is no note."""
-    step = d + s
-    altered = sound_of(d, a) + t - sound_of(step, 0)
-    if not is_note(step, altered):
-        return None
-    return [step, altered]
+def above(note, s, t):
+    """What lies s steps and t semitones above the note, whether it is a note or not."""
+    step = note[0] + s
+    return [step, sound_of(note[0], note[1]) + t - sound_of(step, 0)]
+
+
+def paired(numbers):
+    return [numbers[at:at + 2] for at in range(0, len(numbers), 2)]
+
+
+def counted(notes):
+    """How many notes, then they, number by number; the refusal if one of them is no note."""
+    if not are_notes(notes):
+        return [NO_NOTE]
+    told = [len(notes)]
+    for note in notes:
+        told.extend(note)
+    return told
 
 
 def first_step(k, mode):
@@ -69,6 +127,62 @@ def first_step(k, mode):
 def key_alteration(k, step):
     # A key's places are seven in a row, so each step has just one of them: its last that is not beyond k + 5.
     return (k + 5 - PLACES[step % 7]) // 7
+
+
+def notes_sounding(sound):
+    reached = [[step, sound - sound_of(step, 0)] for step in range(70)]
+    return [note for note in reached if is_note(note[0], note[1])]
+
+
+def continued(row, note, k):
+    """The row, which is its cost and then its notes, with one more note behind."""
+    twice = 2 * place_of(note[0], note[1])
+    cost = row[0] + abs(twice - (2 * k + 4))
+    if len(row) > 1:
+        cost += abs(twice - 2 * place_of(row[-2], row[-1]))
+    return [cost] + row[1:] + note
+
+
+def best_row(rows):
+    # Rows that sound alike and have the same steps are the same: so the lists themselves, number by number,
+    # lie as cost and steps do.
+    return min(rows)
+
+
+def best_with(rows, note, k):
+    return best_row([continued(row, note, k) for row in rows])
+
+
+def chord_notes(root, kind):
+    semitones = CHORDS[kind]
+    return [above(root, 2 * at, semitones[at]) for at in range(len(semitones))]
+
+
+def turned(notes, turn):
+    return notes[turn:] + [above(note, 7, 12) for note in notes[:turn]]
+
+
+def different_names(notes):
+    """Each name among the notes once, in the order in which they are told."""
+    names = []
+    for note in notes:
+        name = [note[0] % 7, note[1]]
+        if name not in names:
+            names.append(name)
+    return names
+
+
+def are_same_names(names, others):
+    return len(names) == len(others) and all([name in others for name in names])
+
+
+def chord_answer(names, root, kind):
+    """What chord answers if the names are those of this chord; None if they are not."""
+    chord = different_names(chord_notes(root, kind))
+    if not are_same_names(chord, names):
+        return None
+    turn = chord.index(names[0])
+    return root + [kind, turn] + list(FIGURES[len(chord)][turn])
 
 
 def tell_sound(d, a):
@@ -86,10 +200,10 @@ def tell_interval(d, a, other_d, other_a):
 
 
 def tell_above(d, a, s, t):
-    if not is_note(d, a) or not -70 <= s <= 70 or not -200 <= t <= 200:
+    if not is_note(d, a) or not is_distance(s, t):
         return [REFUSED]
-    note = note_above(d, a, s, t)
-    if note is None:
+    note = above([d, a], s, t)
+    if not is_note(note[0], note[1]):
         return [NO_NOTE]
     return [0] + note
 
@@ -107,11 +221,43 @@ def tell_degree(k, mode, d, a):
     return [(d - first_step(k, mode)) % 7, a - key_alteration(k, d)]
 
 
+def tell_spell(k, sounds):
+    if not is_fifths(k) or not all([is_sound(sound) for sound in sounds]):
+        return [REFUSED]
+    rows = [[0]]
+    for sound in sounds:
+        # What comes behind costs the same for all rows that end in one note: only the best of them is kept.
+        rows = [best_with(rows, note, k) for note in notes_sounding(sound)]
+    return best_row(rows)
+
+
+def tell_chord(notes):
+    if not are_notes(notes):
+        return [REFUSED]
+    names = different_names(notes)
+    for root in names:
+        for kind in range(len(CHORDS)):
+            answer = chord_answer(names, root, kind)
+            if answer is not None:
+                return answer
+    return [NO_CHORD]
+
+
+def tell_build(d, a, kind, turn):
+    if not is_note(d, a) or not is_turned_kind(kind, turn):
+        return [REFUSED]
+    return counted(turned(chord_notes([d, a], kind), turn))
+
+
+def tell_move(s, t, notes):
+    if not is_distance(s, t) or not are_notes(notes):
+        return [REFUSED]
+    return counted([above(note, s, t) for note in notes])
+
+
 def tell(number, numbers):
     """What the call of this number answers to its numbers."""
-    if number not in WIDTHS:
-        raise NotImplementedError(f"there is no call {number}")
-    if len(numbers) != WIDTHS[number]:
+    if len(numbers) not in WIDTHS[number]:
         return [REFUSED]
     if number == 1:
         return tell_sound(numbers[0], numbers[1])
@@ -121,7 +267,15 @@ def tell(number, numbers):
         return tell_above(numbers[0], numbers[1], numbers[2], numbers[3])
     if number == 4:
         return tell_key(numbers[0], numbers[1])
-    return tell_degree(numbers[0], numbers[1], numbers[2], numbers[3])
+    if number == 5:
+        return tell_degree(numbers[0], numbers[1], numbers[2], numbers[3])
+    if number == 6:
+        return tell_spell(numbers[0], numbers[1:])
+    if number == 7:
+        return tell_chord(paired(numbers))
+    if number == 8:
+        return tell_build(numbers[0], numbers[1], numbers[2], numbers[3])
+    return tell_move(numbers[0], numbers[1], paired(numbers[2:]))
 
 
 def answers(calls):

@@ -2,10 +2,11 @@
 
 from calledbyname.notes import answers
 
-SOUND, INTERVAL, ABOVE, KEY, DEGREE = 1, 2, 3, 4, 5
+SOUND, INTERVAL, ABOVE, KEY, DEGREE, SPELL, CHORD, BUILD, MOVE = range(1, 10)
 HUGE = 2 ** 53
 REFUSED = [-1]
 NO_NOTE = [-3]
+NO_CHORD = [-3]
 LETTERS = "CDEFGAB"
 ALTERATIONS = range(-2, 3)
 NOTES = [(d, a) for d in range(70) for a in ALTERATIONS]
@@ -54,6 +55,15 @@ def note(name):
     return (7 * int(name[-1]) + LETTERS.index(name[0]), a)
 
 
+def notes(names):
+    """The notes of several names, parted by blanks, as one row of numbers."""
+    return flat(note(name) for name in names.split())
+
+
+def flat(some):
+    return [number for one in some for number in one]
+
+
 def walked_up(steps):
     """The semitones of so many white keys up from a C."""
     semitones = 0
@@ -65,6 +75,25 @@ def walked_up(steps):
 WALKED = [walked_up(steps) for steps in range(71)]
 SOUNDS = {(d, a): WALKED[d] + a for d, a in NOTES}
 FIFTHS = {(d, a): "FCGDAEB".index(LETTERS[d % 7]) - 1 + 7 * a for d, a in NOTES}
+
+
+# Third, fifth and seventh of each kind, in semitones above the root.
+KINDS = {0: "4 7", 1: "3 7", 2: "3 6", 3: "4 8", 4: "4 7 11", 5: "4 7 10", 6: "3 7 10", 7: "3 6 10", 8: "3 6 9"}
+TURNED_KINDS = [(kind, turn) for kind in KINDS for turn in range(3 if kind < 4 else 4)]
+
+
+def searched_above(one, s, t):
+    """The note on the wanted step that sounds as wanted, looked for among all; None if there is none."""
+    for altered in ALTERATIONS:
+        if SOUNDS.get((one[0] + s, altered)) == SOUNDS[one] + t:
+            return (one[0] + s, altered)
+    return None
+
+
+def searched_chord(root, kind):
+    """Root, third, fifth (and seventh), each of them None if it is no note."""
+    heights = [int(height) for height in KINDS[kind].split()]
+    return [root, *(searched_above(root, 2 * at, height) for at, height in enumerate(heights, start=1))]
 
 
 def own_alteration(k, step):
@@ -96,3 +125,7 @@ FIFTHS_OF_KEY = (-7, 7)
 MODE = (0, 6)
 STEPS_ABOVE = (-70, 70)
 SEMITONES_ABOVE = (-200, 200)
+SOUND_TOLD = (0, 118)
+KIND = (0, 8)
+TURN_OF_THREE = (0, 2)
+TURN_OF_FOUR = (0, 3)

@@ -1,16 +1,12 @@
 import unittest
 
-from tests.asking import (ABOVE, ALTERED, HUGE, INTERVAL, NO_NOTE, NOTES, REFUSED, SEMITONES_ABOVE, SOUNDS, STEP,
-                          STEPS_ABOVE, ask, ask_all, note, spoiled)
+from tests.asking import (ABOVE, ALTERED, HUGE, INTERVAL, NO_NOTE, NOTES, REFUSED, SEMITONES_ABOVE, STEP, STEPS_ABOVE,
+                          ask, ask_all, note, searched_above, spoiled)
 
 
 def searched(d, a, s, t):
-    """The note on the wanted step that sounds as wanted, looked for among all."""
-    wanted = SOUNDS[(d, a)] + t
-    for altered in range(-2, 3):
-        if SOUNDS.get((d + s, altered)) == wanted:
-            return [0, d + s, altered]
-    return NO_NOTE
+    found = searched_above((d, a), s, t)
+    return NO_NOTE if found is None else [0, *found]
 
 
 class Above(unittest.TestCase):

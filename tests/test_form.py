@@ -3,6 +3,7 @@
 import ast
 import builtins
 import pathlib
+import re
 import unittest
 
 PACKAGE = pathlib.Path(__file__).resolve().parent.parent / "calledbyname"
@@ -11,6 +12,15 @@ ALLOWED = set(
     "len range enumerate zip min max sum abs sorted reversed int str bool list tuple dict set frozenset isinstance ord "
     "repr any all divmod Exception ValueError TypeError KeyError IndexError LookupError ZeroDivisionError "
     "ArithmeticError OverflowError RuntimeError NotImplementedError AttributeError StopIteration".split()
+)
+METHODS = set(
+    "append clear copy count endswith extend find get index insert isalnum isalpha isdigit islower isspace isupper "
+    "items join keys ljust lower lstrip partition pop remove replace reverse rfind rjust rpartition rsplit rstrip "
+    "setdefault split splitlines startswith strip update upper values zfill bit_length".split()
+)
+WORDS = (
+    r"\b(type|typing|typing_extensions|enum|Enum|IntEnum|StrEnum|Flag|IntFlag|Generic|Protocol|ABC|ABCMeta|namedtuple"
+    r"|NamedTuple|TypedDict|TYPE_CHECKING|abstractmethod)\b|dataclass|overload|contextmanager"
 )
 LEFT_OUT = (
     ast.Import, ast.ImportFrom, ast.With, ast.Match, ast.Delete, ast.Global, ast.Nonlocal, ast.Assert, ast.Yield,
@@ -56,6 +66,28 @@ class Form(unittest.TestCase):
                     self.assertIsInstance(node.ctx, ast.Load, f"{name}: {node.id}")
                 if isinstance(node, ast.arg):
                     self.assertFalse(hasattr(builtins, node.arg), f"{name}: {node.arg}")
+
+    def test_names_are_plain(self):
+        for name, tree in self.trees():
+            for node in ast.walk(tree):
+                for bound in (getattr(node, "id", "a"), getattr(node, "arg", "a"), getattr(node, "name", "a")):
+                    self.assertRegex(bound, r"\A[A-Za-z][A-Za-z0-9_]*\Z", name)
+
+    def test_methods_of_pythons_own_values(self):
+        for name, tree in self.trees():
+            for node in ast.walk(tree):
+                if isinstance(node, ast.Attribute):
+                    self.assertIn(node.attr, METHODS, name)
+
+    def test_an_assignment_has_one_target(self):
+        for name, tree in self.trees():
+            for node in ast.walk(tree):
+                if isinstance(node, ast.Assign):
+                    self.assertEqual([isinstance(target, ast.Name) for target in node.targets], [True], name)
+
+    def test_words_that_stand_nowhere(self):
+        for file in FILES:
+            self.assertIsNone(re.search(WORDS, file.read_text("ascii")), file.name)
 
 
 if __name__ == "__main__":
